@@ -1,0 +1,1 @@
+"""Coconuts shared: nights of shares, and the heaps that go with them."""
